@@ -1,0 +1,70 @@
+// Package layers: images that are built from build files, as layers in a store of blobs: see DOC.md.
+package layers
+
+import (
+	"layers/api"
+	"layers/paths"
+	"layers/trees"
+)
+
+// Resolve tells the path that a text names (P3).
+func Resolve(work string, path string) (string, error) { return paths.Resolve(work, path) }
+
+// Sum tells a tree's sum (P4).
+func Sum(l []api.Entry) (string, error) {
+	root, err := trees.Of(l)
+	if err != nil {
+		return "", err
+	}
+	return root.Sum(), nil
+}
+
+// Diff tells what makes one tree of another (P5).
+func Diff(a []api.Entry, b []api.Entry) ([]api.Change, error) { return nil, nil }
+
+// Patch does changes on a tree (P6).
+func Patch(a []api.Entry, l []api.Change) ([]api.Entry, error) { return nil, nil }
+
+// Pack makes an archive of changes (P7).
+func Pack(l []api.Change) (string, error) { return "", nil }
+
+// Unpack tells what an archive says (P8).
+func Unpack(s string) ([]api.Change, error) { return nil, nil }
+
+// Parse tells a build file's one form (P10).
+func Parse(text string) (string, error) { return "", nil }
+
+// Plan tells the stages that are needed (P11).
+func Plan(text string) ([]int, error) { return nil, nil }
+
+// Make tells what a build file means (P12).
+func Make(text string, context []api.Entry) (api.Image, error) { return api.Image{}, nil }
+
+// Store is files of blobs and of a cache.
+type Store struct{}
+
+// New makes a store of files (P13).
+func New(files []api.Blob, quota int) (*Store, error) { return nil, nil }
+
+// Acts tells what was done to the files (P13).
+func (s *Store) Acts() []api.Act { return nil }
+
+// Files tells all files (P13).
+func (s *Store) Files() []api.Blob { return nil }
+
+// Put keeps a blob (P14).
+func (s *Store) Put(data string) (string, error) { return "", nil }
+
+// Get tells a blob's bytes (P14).
+func (s *Store) Get(digest string) (string, error) { return "", nil }
+
+// Drop removes a file (P14).
+func (s *Store) Drop(name string) error { return nil }
+
+// Build builds a build file (P16, P17).
+func (s *Store) Build(text string, context []api.Entry) (api.Built, error) {
+	return api.Built{}, nil
+}
+
+// Load tells the image of a manifest (P18).
+func (s *Store) Load(digest string) (api.Image, error) { return api.Image{}, nil }
