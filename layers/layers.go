@@ -3,6 +3,7 @@ package layers
 
 import (
 	"layers/api"
+	"layers/changes"
 	"layers/paths"
 	"layers/trees"
 )
@@ -20,10 +21,29 @@ func Sum(l []api.Entry) (string, error) {
 }
 
 // Diff tells what makes one tree of another (P5).
-func Diff(a []api.Entry, b []api.Entry) ([]api.Change, error) { return nil, nil }
+func Diff(a []api.Entry, b []api.Entry) ([]api.Change, error) {
+	old, err := trees.Of(a)
+	if err != nil {
+		return nil, err
+	}
+	now, err := trees.Of(b)
+	if err != nil {
+		return nil, err
+	}
+	return changes.Diff(old, now), nil
+}
 
 // Patch does changes on a tree (P6).
-func Patch(a []api.Entry, l []api.Change) ([]api.Entry, error) { return nil, nil }
+func Patch(a []api.Entry, l []api.Change) ([]api.Entry, error) {
+	root, err := trees.Of(a)
+	if err != nil {
+		return nil, err
+	}
+	if err := changes.Patch(root, l); err != nil {
+		return nil, err
+	}
+	return root.List(), nil
+}
 
 // Pack makes an archive of changes (P7).
 func Pack(l []api.Change) (string, error) { return "", nil }

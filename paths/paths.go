@@ -75,6 +75,11 @@ func Compare(a string, b string) int {
 	return slices.Compare(Elements(a), Elements(b))
 }
 
+// IsBelow tells whether a path is below another one, which is not the root.
+func IsBelow(path string, top string) bool {
+	return strings.HasPrefix(path, top+Slash)
+}
+
 // Resolve tells the path that a text names in the directory work (P3).
 func Resolve(work string, path string) (string, error) {
 	if !Is(work) {

@@ -81,3 +81,17 @@ func TestElements(t *testing.T) {
 		t.Errorf("a/b has the elements %q", l)
 	}
 }
+
+func TestIsBelow(t *testing.T) {
+	for _, x := range []struct {
+		path, top string
+		want      bool
+	}{
+		{"a/b", "a", true}, {"a/b/c", "a", true}, {"a/b/c", "a/b", true},
+		{"a", "a", false}, {"a", "a/b", false}, {"a-b", "a", false}, {"ab/c", "a", false}, {"b/a", "a", false}, {"", "a", false},
+	} {
+		if got := IsBelow(x.path, x.top); got != x.want {
+			t.Errorf("IsBelow(%q, %q): %v", x.path, x.top, got)
+		}
+	}
+}

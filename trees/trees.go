@@ -1,4 +1,4 @@
-// Package trees: trees of entries, and their sums.
+// Package trees: trees of entries, what is done on them, and their sums.
 package trees
 
 import (
@@ -27,7 +27,7 @@ func Of(l []api.Entry) (*Node, error) {
 	root := newNode(api.Entry{Path: paths.Root, Kind: api.Dir, Mode: rootMode})
 	ahead := root.Path
 	for i, e := range l {
-		if i >= api.MaxEntries || !isEntry(e) || paths.Compare(ahead, e.Path) >= 0 || !root.add(e) {
+		if i >= api.MaxEntries || !IsEntry(e) || paths.Compare(ahead, e.Path) >= 0 || !root.Put(e) {
 			return nil, &api.At{Err: api.ErrTree, Place: i}
 		}
 		ahead = e.Path
@@ -39,8 +39,8 @@ func newNode(e api.Entry) *Node {
 	return &Node{Entry: e, kids: map[string]*Node{}}
 }
 
-// isEntry tells whether an entry is one by itself, wherever it stands.
-func isEntry(e api.Entry) bool {
+// IsEntry tells whether an entry is one by itself, wherever it stands.
+func IsEntry(e api.Entry) bool {
 	if e.Path == paths.Root || !paths.Is(e.Path) {
 		return false
 	}
@@ -71,19 +71,38 @@ func isTarget(s string) bool {
 	return true
 }
 
-// add lays an entry into its directory below the root; false, if there is no such directory.
-func (n *Node) add(e api.Entry) bool {
+// Put lays an entry into its directory below the root, in the place of what stands there; but what is in a Dir stays, if the entry is one too. False, if there is no such directory.
+func (n *Node) Put(e api.Entry) bool {
 	path, name := paths.Last(e.Path)
-	dir := n.find(path)
-	if dir == nil || dir.Kind != api.Dir {
+	dir := n.Find(path)
+	if !dir.IsDir() {
 		return false
 	}
-	dir.kids[name] = newNode(e)
+	if old := dir.kids[name]; old.IsDir() && e.Kind == api.Dir {
+		old.Entry = e
+	} else {
+		dir.kids[name] = newNode(e)
+	}
 	return true
 }
 
-// find tells what is at a path below the root; nil, if nothing is.
-func (n *Node) find(path string) *Node {
+// Remove takes away what is at a path below the root, and all below it. Nothing may be there any more: of two marks the first may have taken away what the second one names.
+func (n *Node) Remove(path string) {
+	path, name := paths.Last(path)
+	if dir := n.Find(path); dir != nil {
+		delete(dir.kids, name)
+	}
+}
+
+// Clear takes away all that is below a path, if that is there.
+func (n *Node) Clear(path string) {
+	if dir := n.Find(path); dir != nil {
+		clear(dir.kids)
+	}
+}
+
+// Find tells what is at a path below the root; nil, if nothing is.
+func (n *Node) Find(path string) *Node {
 	for _, name := range paths.Elements(path) {
 		kid, ok := n.kids[name]
 		if !ok {
@@ -92,6 +111,21 @@ func (n *Node) find(path string) *Node {
 		n = kid
 	}
 	return n
+}
+
+// IsDir tells whether a Dir is there: nil, where Find tells of nothing, is none.
+func (n *Node) IsDir() bool {
+	return n != nil && n.Kind == api.Dir
+}
+
+// Has tells whether something of this last element is in a node.
+func (n *Node) Has(name string) bool {
+	return n.kids[name] != nil
+}
+
+// Wide tells how many entries are in a node, not deeper.
+func (n *Node) Wide() int {
+	return len(n.kids)
 }
 
 // Inside goes through what is in a node, not deeper, by rising last elements: the map's own order may not be seen in an answer.
@@ -105,12 +139,59 @@ func (n *Node) Inside() iter.Seq2[string, *Node] {
 	}
 }
 
+// All goes through a node and all below it, in tree order.
+func (n *Node) All() iter.Seq[*Node] {
+	return func(yield func(*Node) bool) {
+		n.each(yield)
+	}
+}
+
+// each tells whether to go on behind the node. It goes as deep as the tree, which the bound of a path holds at MaxDeep.
+func (n *Node) each(yield func(*Node) bool) bool {
+	if !yield(n) {
+		return false
+	}
+	for _, kid := range n.Inside() {
+		if !kid.each(yield) {
+			return false
+		}
+	}
+	return true
+}
+
+// List tells the entries below the root, in tree order.
+func (n *Node) List() []api.Entry {
+	var l []api.Entry
+	for kid := range n.All() {
+		if kid != n {
+			l = append(l, kid.Copy())
+		}
+	}
+	return l
+}
+
+// Below tells how many entries are below a node.
+func (n *Node) Below() int {
+	count := 0
+	for kid := range n.All() {
+		if kid != n {
+			count++
+		}
+	}
+	return count
+}
+
+// Copy tells a node's entry. Its texts are new ones: what comes out shares no memory with what was handed in.
+func (n *Node) Copy() api.Entry {
+	return api.Entry{Path: strings.Clone(n.Path), Kind: n.Kind, Mode: n.Mode, Data: strings.Clone(n.Data)}
+}
+
 // Sum tells the sum of a node; that of the root is the tree's (P4).
 func (n *Node) Sum() string {
 	return digest.Of(n.summed())
 }
 
-// summed is the text whose digest is the sum. It goes as deep as the tree, which the bound of a path holds at MaxDeep.
+// summed is the text whose digest is the sum. It goes as deep as the tree, like each.
 func (n *Node) summed() string {
 	switch n.Kind {
 	case api.File:
