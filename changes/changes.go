@@ -12,15 +12,15 @@ import (
 // Check tells ErrChange, with the place, if a list is no changes.
 func Check(l []api.Change) error {
 	for i, c := range l {
-		if !mayFollow(l[:i], c) {
+		if !MayFollow(l[:i], c) {
 			return &api.At{Err: api.ErrChange, Place: i}
 		}
 	}
 	return nil
 }
 
-// mayFollow tells whether a change may stand behind changes. The last of them tells enough: all below a path stands right behind it in tree order.
-func mayFollow(ahead []api.Change, c api.Change) bool {
+// MayFollow tells whether a change may stand behind changes. The last of them tells enough: all below a path stands right behind it in tree order.
+func MayFollow(ahead []api.Change, c api.Change) bool {
 	n := len(ahead)
 	if n >= api.MaxChanges || !isChange(c) {
 		return false

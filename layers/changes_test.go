@@ -297,10 +297,10 @@ func TestP6FirstError(t *testing.T) {
 	checkNoPatch(t, many, []api.Change{put(dir("a", 0)), gone("b"), put(dir("x/y", 0))}, api.ErrMissing, 1)
 }
 
-// Each change that is none by itself, wherever it stands.
-func TestP6NoChange(t *testing.T) {
+// noChange: changes that are none by themselves.
+func noChange() []api.Change {
 	long := strings.Repeat("n", api.MaxName+1)
-	bad := []api.Change{
+	return []api.Change{
 		{}, {Path: "a"}, {Path: "a", Kind: -1}, {Path: "a", Kind: 6}, {Path: "a", Kind: math.MaxInt}, {Path: "a", Kind: math.MinInt},
 		gone(""), gone("/"), gone("a/"), gone("/a"), gone("a//b"), gone(".."), gone(".wh.a"), gone("a b"), gone(long),
 		cleared("/"), cleared("a/"), cleared("."), cleared("a/.wh..wh..opq"), cleared(long),
@@ -311,7 +311,11 @@ func TestP6NoChange(t *testing.T) {
 		put(file("a", api.MaxMode+1, "")), put(file("a", 0, strings.Repeat("d", api.MaxFile+1))),
 		put(link("a", "")), put(link("a", " ")), put(link("a", strings.Repeat("t", api.MaxLink+1))), {Path: "a", Kind: api.Link, Mode: 1, Data: "x"},
 	}
-	for _, c := range bad {
+}
+
+// Each change that is none by itself, wherever it stands.
+func TestP6NoChange(t *testing.T) {
+	for _, c := range noChange() {
 		checkNoChanges(t, 0, c)
 		checkNoChanges(t, 0, c, c)
 		checkNoChanges(t, 1, put(dir("-", 0)), c, gone("z"))

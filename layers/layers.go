@@ -3,6 +3,7 @@ package layers
 
 import (
 	"layers/api"
+	"layers/archive"
 	"layers/changes"
 	"layers/paths"
 	"layers/trees"
@@ -46,10 +47,10 @@ func Patch(a []api.Entry, l []api.Change) ([]api.Entry, error) {
 }
 
 // Pack makes an archive of changes (P7).
-func Pack(l []api.Change) (string, error) { return "", nil }
+func Pack(l []api.Change) (string, error) { return archive.Pack(l) }
 
 // Unpack tells what an archive says (P8).
-func Unpack(s string) ([]api.Change, error) { return nil, nil }
+func Unpack(s string) ([]api.Change, error) { return archive.Unpack(s) }
 
 // Parse tells a build file's one form (P10).
 func Parse(text string) (string, error) { return "", nil }

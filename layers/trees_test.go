@@ -384,6 +384,16 @@ func TestP2AnswersHangOnArguments(t *testing.T) {
 }
 
 // Package plain tells the same, in plain data.
+func TestP2ResolveSharesNothing(t *testing.T) {
+	work, path := strings.Repeat("w", 9), strings.Repeat("p", 9)
+	for _, x := range [][2]string{{"", path}, {work, ""}, {work, path}, {"", "/" + path}} {
+		got, err := layers.Resolve(x[0], x[1])
+		if err != nil || isPieceOf(got, x[0]) || isPieceOf(got, x[1]) {
+			t.Errorf("P2: Resolve(%q, %q): %q, %v: a piece of what was handed in", x[0], x[1], got, err)
+		}
+	}
+}
+
 func TestPlain(t *testing.T) {
 	if p, e, at := plain.Resolve("a/b", "../c"); p != "a/c" || e != api.OK || at != -1 {
 		t.Errorf("P3: %q, %d, %d", p, e, at)

@@ -13,13 +13,13 @@ const (
 	Root = ""
 	// Slash stands between each two elements.
 	Slash = "/"
-	// mark begins the names by which archives tell what is gone: no element may look like one.
-	mark = ".wh."
+	// Mark begins the names by which archives tell what is gone: no element may look like one.
+	Mark = ".wh."
 )
 
 // IsElement tells whether a text may stand between the slashes of a path.
 func IsElement(s string) bool {
-	if s == "" || len(s) > api.MaxName || s == "." || s == ".." || strings.HasPrefix(s, mark) {
+	if s == "" || len(s) > api.MaxName || s == "." || s == ".." || strings.HasPrefix(s, Mark) {
 		return false
 	}
 	for i := range len(s) {
@@ -68,6 +68,14 @@ func Last(path string) (string, string) {
 		return Root, path
 	}
 	return path[:i], path[i+1:]
+}
+
+// Join puts together what Last parts: a directory and a name in it.
+func Join(dir string, name string) string {
+	if dir == Root {
+		return name
+	}
+	return dir + Slash + name
 }
 
 // Compare tells how two paths stand in tree order. Texts as they are would not do: `a-b` is less than `a/b`, but a comes first, and all below it with it.

@@ -45,12 +45,15 @@ func TestIs(t *testing.T) {
 	}
 }
 
-func TestLast(t *testing.T) {
+func TestLastAndJoin(t *testing.T) {
 	for _, x := range []struct{ path, dir, name string }{
 		{"a", Root, "a"}, {"a/b", "a", "b"}, {"a/b/c", "a/b", "c"},
 	} {
 		if dir, name := Last(x.path); dir != x.dir || name != x.name {
 			t.Errorf("Last(%q): %q, %q", x.path, dir, name)
+		}
+		if path := Join(x.dir, x.name); path != x.path {
+			t.Errorf("Join(%q, %q): %q", x.dir, x.name, path)
 		}
 	}
 }
