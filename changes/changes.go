@@ -37,7 +37,7 @@ func MayFollow(ahead []api.Change, c api.Change) bool {
 
 // isChange tells whether a change is one by itself, wherever it stands.
 func isChange(c api.Change) bool {
-	if !isMark(c) {
+	if !IsMark(c) {
 		return trees.IsEntry(api.Entry(c))
 	}
 	if c.Kind == api.Gone && c.Path == paths.Root {
@@ -46,7 +46,8 @@ func isChange(c api.Change) bool {
 	return paths.Is(c.Path) && c.Mode == 0 && c.Data == ""
 }
 
-func isMark(c api.Change) bool {
+// IsMark tells whether a change is a mark, not an entry.
+func IsMark(c api.Change) bool {
 	return c.Kind == api.Gone || c.Kind == api.Clear
 }
 

@@ -47,7 +47,7 @@ func doMarks(root *trees.Node, l []api.Change) {
 
 func putEntries(root *trees.Node, l []api.Change) error {
 	for i, c := range l {
-		if !isMark(c) && !root.Put(api.Entry(c)) {
+		if !IsMark(c) && !root.Put(api.Entry(c)) {
 			return &api.At{Err: api.ErrKind, Place: i}
 		}
 	}

@@ -53,13 +53,39 @@ func Pack(l []api.Change) (string, error) { return archive.Pack(l) }
 func Unpack(s string) ([]api.Change, error) { return archive.Unpack(s) }
 
 // Parse tells a build file's one form (P10).
-func Parse(text string) (string, error) { return "", nil }
+func Parse(text string) (string, error) {
+	f, err := read(text)
+	if err != nil {
+		return "", err
+	}
+	return f.Form(), nil
+}
 
 // Plan tells the stages that are needed (P11).
-func Plan(text string) ([]int, error) { return nil, nil }
+func Plan(text string) ([]int, error) {
+	f, err := read(text)
+	if err != nil {
+		return nil, err
+	}
+	return f.Needed(), nil
+}
 
 // Make tells what a build file means (P12).
-func Make(text string, context []api.Entry) (api.Image, error) { return api.Image{}, nil }
+func Make(text string, context []api.Entry) (api.Image, error) {
+	f, err := read(text)
+	if err != nil {
+		return api.Image{}, err
+	}
+	root, err := trees.Of(context)
+	if err != nil {
+		return api.Image{}, err
+	}
+	last, err := f.Make(root)
+	if err != nil {
+		return api.Image{}, err
+	}
+	return last.Image(), nil
+}
 
 // Store is files of blobs and of a cache.
 type Store struct{}

@@ -88,6 +88,11 @@ func IsBelow(path string, top string) bool {
 	return strings.HasPrefix(path, top+Slash)
 }
 
+// Behind tells what of a path stands behind another one, below which it is: Join of that one and this is the path. The other one may be the root.
+func Behind(path string, top string) string {
+	return strings.TrimPrefix(strings.TrimPrefix(path, top), Slash)
+}
+
 // Resolve tells the path that a text names in the directory work (P3).
 func Resolve(work string, path string) (string, error) {
 	if !Is(work) {

@@ -98,3 +98,11 @@ func TestIsBelow(t *testing.T) {
 		}
 	}
 }
+
+func TestBehind(t *testing.T) {
+	for _, x := range [][3]string{{"a", "", "a"}, {"a/b", "", "a/b"}, {"a/b", "a", "b"}, {"a/a/a", "a", "a/a"}, {"a/b/c", "a/b", "c"}} {
+		if got := Behind(x[0], x[1]); got != x[2] || Join(x[1], got) != x[0] {
+			t.Errorf("Behind(%q, %q): %q; want %q", x[0], x[1], got, x[2])
+		}
+	}
+}

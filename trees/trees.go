@@ -22,9 +22,14 @@ type Node struct {
 	kids map[string]*Node
 }
 
+// New makes a tree without entries, and tells its root.
+func New() *Node {
+	return newNode(api.Entry{Path: paths.Root, Kind: api.Dir, Mode: rootMode})
+}
+
 // Of makes a tree of a list, and tells its root; ErrTree, with the place, if the list is none.
 func Of(l []api.Entry) (*Node, error) {
-	root := newNode(api.Entry{Path: paths.Root, Kind: api.Dir, Mode: rootMode})
+	root := New()
 	ahead := root.Path
 	for i, e := range l {
 		if i >= api.MaxEntries || !IsEntry(e) || paths.Compare(ahead, e.Path) >= 0 || !root.Put(e) {
@@ -50,7 +55,7 @@ func IsEntry(e api.Entry) bool {
 	case api.File:
 		return isMode(e.Mode) && len(e.Data) <= api.MaxFile
 	case api.Link:
-		return e.Mode == 0 && isTarget(e.Data)
+		return e.Mode == 0 && IsTarget(e.Data)
 	}
 	return false
 }
@@ -59,7 +64,8 @@ func isMode(mode int) bool {
 	return 0 <= mode && mode <= api.MaxMode
 }
 
-func isTarget(s string) bool {
+// IsTarget tells whether a text may be the target of a Link.
+func IsTarget(s string) bool {
 	if s == "" || len(s) > api.MaxLink {
 		return false
 	}
@@ -69,6 +75,15 @@ func isTarget(s string) bool {
 		}
 	}
 	return true
+}
+
+// Clone makes a node of its own of a node and all below it. It goes as deep as the tree, like each.
+func (n *Node) Clone() *Node {
+	c := newNode(n.Entry)
+	for name, kid := range n.Inside() {
+		c.kids[name] = kid.Clone()
+	}
+	return c
 }
 
 // Put lays an entry into its directory below the root, in the place of what stands there; but what is in a Dir stays, if the entry is one too. False, if there is no such directory.

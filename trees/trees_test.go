@@ -109,3 +109,23 @@ func TestPutAndRemove(t *testing.T) {
 		t.Errorf("left: %v", root.List())
 	}
 }
+
+// What is done on a tree is not seen in one that was made of it, nor the other way round.
+func TestClone(t *testing.T) {
+	root, l := someTree(t)
+	other := root.Clone()
+	if !slices.Equal(other.List(), l) || other.Entry != root.Entry {
+		t.Errorf("a clone: %v; want %v", other.List(), l)
+	}
+	other.Put(api.Entry{Path: "a", Kind: api.Dir, Mode: 1})
+	other.Remove("a/b/c")
+	other.Put(api.Entry{Path: "b/x", Kind: api.Dir})
+	if !slices.Equal(root.List(), l) {
+		t.Errorf("changed with its clone: %v", root.List())
+	}
+	changed := other.List()
+	root.Clear("")
+	if root.Below() != 0 || New().Below() != 0 || !slices.Equal(other.List(), changed) {
+		t.Errorf("a clone, changed with what it is of: %v", other.List())
+	}
+}
