@@ -10,6 +10,7 @@ const (
 	blockSize  = 64
 	lengthSize = 8 // bytes at the end of the last block, which tell the text's length
 	hexDigits  = "0123456789abcdef"
+	digits     = 64 // of a digest
 )
 
 // state is the eight words that each block changes.
@@ -34,6 +35,19 @@ func Of(text string) string {
 	// The end is filled up apart, so that a long text is not copied.
 	s = mixAll(s, filled(text[whole:], len(text)))
 	return hexadecimal(s)
+}
+
+// Is tells whether a text may be a digest, by its form.
+func Is(text string) bool {
+	if len(text) != digits {
+		return false
+	}
+	for i := range len(text) {
+		if strings.IndexByte(hexDigits, text[i]) < 0 {
+			return false
+		}
+	}
+	return true
 }
 
 // start: the first 32 bits behind the point of the square roots of the first eight primes (FIPS 180-4, 5.3.3).

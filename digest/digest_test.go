@@ -45,3 +45,20 @@ func TestLongTexts(t *testing.T) {
 		}
 	}
 }
+
+// Each byte of a digest is one of its digits, and there are neither more nor fewer.
+func TestIs(t *testing.T) {
+	good := Of("abc")
+	for i := range good {
+		for c := range 256 {
+			text := good[:i] + string([]byte{byte(c)}) + good[i+1:]
+			want := '0' <= c && c <= '9' || 'a' <= c && c <= 'f'
+			if got := Is(text); got != want {
+				t.Errorf("Is(%q): %v", text, got)
+			}
+		}
+		if Is(good[:i]) || Is(good[i+1:]) || Is(good+good[i:]) {
+			t.Errorf("Is of another length than that of %q", good)
+		}
+	}
+}

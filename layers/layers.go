@@ -6,6 +6,7 @@ import (
 	"layers/archive"
 	"layers/changes"
 	"layers/paths"
+	"layers/store"
 	"layers/trees"
 )
 
@@ -88,25 +89,33 @@ func Make(text string, context []api.Entry) (api.Image, error) {
 }
 
 // Store is files of blobs and of a cache.
-type Store struct{}
+type Store struct {
+	files *store.Store
+}
 
 // New makes a store of files (P13).
-func New(files []api.Blob, quota int) (*Store, error) { return nil, nil }
+func New(files []api.Blob, quota int) (*Store, error) {
+	l, err := store.New(files, quota)
+	if err != nil {
+		return nil, err
+	}
+	return &Store{files: l}, nil
+}
 
 // Acts tells what was done to the files (P13).
-func (s *Store) Acts() []api.Act { return nil }
+func (s *Store) Acts() []api.Act { return s.files.Acts() }
 
 // Files tells all files (P13).
-func (s *Store) Files() []api.Blob { return nil }
+func (s *Store) Files() []api.Blob { return s.files.Files() }
 
 // Put keeps a blob (P14).
-func (s *Store) Put(data string) (string, error) { return "", nil }
+func (s *Store) Put(data string) (string, error) { return s.files.Put(data) }
 
 // Get tells a blob's bytes (P14).
-func (s *Store) Get(digest string) (string, error) { return "", nil }
+func (s *Store) Get(digest string) (string, error) { return s.files.Get(digest) }
 
 // Drop removes a file (P14).
-func (s *Store) Drop(name string) error { return nil }
+func (s *Store) Drop(name string) error { return s.files.Drop(name) }
 
 // Build builds a build file (P16, P17).
 func (s *Store) Build(text string, context []api.Entry) (api.Built, error) {
