@@ -3,13 +3,16 @@ package buildfile
 import (
 	"maps"
 	"slices"
+	"strings"
 	"testing"
 
 	"layers/trees"
+	"layers/words"
 )
 
-// init has filled the table: every instruction can be read and done.
+// Every instruction of the table can be read and done.
 func TestRules(t *testing.T) {
+	rules := newRules()
 	want := []string{"ADD", "COPY", "ENV", "FROM", "LINK", "MKDIR", "RM", "WORKDIR"}
 	if got := slices.Sorted(maps.Keys(rules)); !slices.Equal(got, want) {
 		t.Errorf("instructions: %q; want %q", got, want)
@@ -19,6 +22,31 @@ func TestRules(t *testing.T) {
 			t.Errorf("%s: %v", word, r)
 		}
 	}
+}
+
+// init has found the longest word: that one is looked for, and one byte more is not.
+func TestLongest(t *testing.T) {
+	if longest != len(workdirWord) {
+		t.Errorf("the longest word has %d bytes; want %d", longest, len(workdirWord))
+	}
+	for word := range newRules() {
+		if _, ok := ruleOf(wordOf(word)); !ok {
+			t.Errorf("%s: no rule", word)
+		}
+		for _, other := range []string{"", word[1:], word[:len(word)-1], word + "S", strings.ToLower(word), "$" + word} {
+			if r, ok := ruleOf(wordOf(other)); ok || r.read != nil {
+				t.Errorf("%s: a rule", other)
+			}
+		}
+	}
+}
+
+// wordOf: the first word of a line.
+func wordOf(line string) words.Word {
+	if line == "" {
+		return words.Word{}
+	}
+	return words.NewReader(line).Line()[0]
 }
 
 func TestStages(t *testing.T) {

@@ -22,10 +22,11 @@ type Stage struct {
 	Instructions []Instruction
 }
 
-// Instruction: its words, its own first, and the number of the stage that it begins with or copies from.
+// Instruction: its words, its own first, the number of the stage that it begins with or copies from, and its rule.
 type Instruction struct {
 	Words []words.Word
 	Stage int
+	rule  rule
 }
 
 // Read tells what a text says. It panics with a words.Wrong, if the text is no build file.
@@ -46,8 +47,8 @@ func Read(text string) *File {
 
 // take reads one instruction more, and puts it into the last stage, which is a new one, if it is a FROM.
 func (f *File) take(in *Instruction) {
-	r := f.ruleFor(in)
-	r.read(f, in)
+	in.rule = f.ruleFor(in)
+	in.rule.read(f, in)
 	f.checkVariables(in)
 	if f.size() >= api.MaxSteps {
 		words.Fail(api.ErrBound, in.Place())
@@ -58,7 +59,7 @@ func (f *File) take(in *Instruction) {
 
 // ruleFor tells the rule of an instruction that may stand here and has as many words as it may.
 func (f *File) ruleFor(in *Instruction) rule {
-	r, ok := in.rule()
+	r, ok := ruleOf(in.Words[0])
 	behind := len(in.Words) - 1
 	if !ok || behind < r.least || behind > r.most || len(f.Stages) == 0 && !in.is(fromWord) {
 		words.Fail(api.ErrSyntax, in.Place())
@@ -153,16 +154,6 @@ func (in Instruction) Place() int {
 
 func (in Instruction) is(word string) bool {
 	return in.Words[0].Is(word)
-}
-
-// rule tells the rule of an instruction; false, if there is none.
-func (in Instruction) rule() (rule, bool) {
-	word, ok := in.Words[0].Plain()
-	if !ok {
-		return rule{}, false
-	}
-	r, ok := rules[word]
-	return r, ok
 }
 
 func (in Instruction) form() string {

@@ -38,8 +38,7 @@ func (m *making) do(s *steps.State, in Instruction) error {
 	if err != nil {
 		return err
 	}
-	r, _ := in.rule()
-	if err := r.do(s, t); err != nil {
+	if err := in.rule.do(s, t); err != nil {
 		return err
 	}
 	return s.CheckBound()

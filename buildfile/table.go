@@ -1,6 +1,9 @@
 package buildfile
 
-import "layers/steps"
+import (
+	"layers/steps"
+	"layers/words"
+)
 
 // The words of instructions.
 const (
@@ -21,13 +24,16 @@ type rule struct {
 	do          func(*steps.State, steps.Task) error
 }
 
-// rules are those of all instructions, by their words. Only init writes here: the table could not be a starting value, since the methods in it ask the table themselves.
-var rules map[string]rule
+// longest is how many bytes the longest word of an instruction has. Only init writes here.
+var longest = 0
 
 func init() {
-	rules = newRules()
+	for word := range newRules() {
+		longest = max(longest, len(word))
+	}
 }
 
+// newRules makes the table of all instructions, by their words.
 func newRules() map[string]rule {
 	return map[string]rule{
 		fromWord:    {1, 3, (*File).readFrom, (*steps.State).Begin},
@@ -39,4 +45,14 @@ func newRules() map[string]rule {
 		envWord:     {2, 2, (*File).readEnv, (*steps.State).SetVariable},
 		workdirWord: {1, 1, (*File).readAny, (*steps.State).Enter},
 	}
+}
+
+// ruleOf tells the rule of the instruction that begins with this word; false, if there is none. The table is made at each look, so a word that is longer than all of its words is not looked for.
+func ruleOf(w words.Word) (rule, bool) {
+	word, ok := w.Plain()
+	if !ok || len(word) > longest {
+		return rule{}, false
+	}
+	r, ok := newRules()[word]
+	return r, ok
 }
