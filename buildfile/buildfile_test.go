@@ -1,6 +1,8 @@
 package buildfile
 
 import (
+	"errors"
+	"fmt"
 	"maps"
 	"slices"
 	"strings"
@@ -66,9 +68,56 @@ func TestStages(t *testing.T) {
 func TestMakeTwice(t *testing.T) {
 	f := Read("FROM scratch AS a\nMKDIR x\nFROM a\nCOPY . x\nRM x")
 	for range 2 {
-		s, err := f.Make(trees.New())
+		s, err := f.Make(trees.New(), Turn.Do)
 		if err != nil || s.Tree().Below() != 0 {
 			t.Errorf("%v, %v", s, err)
 		}
+	}
+}
+
+// What a turn tells of its instruction, with the values that the stage has by then.
+func TestTurns(t *testing.T) {
+	f := Read("FROM scratch AS a\nENV A x\nMKDIR $A\\$\nFROM a\nENV A \"y z\"\nWORKDIR ../w\nCOPY --from=a $A \"\"\nADD $A .")
+	context := trees.New()
+	var got []string
+	_, err := f.Make(context, func(turn Turn) error {
+		path, err := turn.Behind()
+		source := "-"
+		switch turn.Task.Source {
+		case nil:
+		case context:
+			source = "context"
+		default:
+			source = "stage"
+		}
+		got = append(got, fmt.Sprint(turn.Form(), ", ", turn.IsStep(), ", ", path, " ", err, ", ", source))
+		if turn.IsStep() {
+			turn.State.Jump(trees.New(), "v")
+			return nil
+		}
+		return turn.Do()
+	})
+	want := []string{
+		"FROM scratch AS a, false,  <nil>, -", "ENV A x, false,  <nil>, -", `MKDIR x\$, true,  <nil>, -`,
+		"FROM a, false,  <nil>, -", `ENV A y\ z, false, v <nil>, -`, "WORKDIR ../w, true, w <nil>, -", `COPY y\ z "", true, v <nil>, stage`, `ADD y\ z ., true, v <nil>, context`,
+	}
+	if err != nil || !slices.Equal(got, want) {
+		t.Errorf("%v: %q; want %q", err, got, want)
+	}
+}
+
+// What goes wrong ends the making, as it is told.
+func TestMakeStops(t *testing.T) {
+	f := Read("FROM scratch\nMKDIR a\nMKDIR b")
+	other := errors.New("other")
+	n := 0
+	s, err := f.Make(trees.New(), func(Turn) error {
+		if n++; n == 2 {
+			return other
+		}
+		return nil
+	})
+	if s != nil || err != other || n != 2 {
+		t.Errorf("%v, %v, behind %d instructions", s, err, n)
 	}
 }

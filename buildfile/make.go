@@ -13,52 +13,41 @@ type making struct {
 	states  []*steps.State
 }
 
-// Make does the stages that are needed, with a context, by its root, and tells what the last one has come to (P12).
-func (f *File) Make(context *trees.Node) (*steps.State, error) {
+// Make does the stages that are needed, with a context, by its root, and tells what the last one has come to (P12). How an instruction is done is said by do: Turn.Do does just that.
+func (f *File) Make(context *trees.Node, do func(Turn) error) (*steps.State, error) {
 	m := &making{context: context, states: make([]*steps.State, len(f.Stages))}
 	for _, i := range f.Needed() {
 		m.states[i] = steps.New()
 		for _, in := range f.Stages[i].Instructions {
-			if err := m.do(m.states[i], in); err != nil {
-				return nil, placed(err, in)
+			if err := do(m.turn(m.states[i], in)); err != nil {
+				return nil, err
 			}
 		}
 	}
 	return m.states[len(f.Stages)-1], nil
 }
 
-// placed tells an error with the place of the instruction that can't be done, whatever place it had.
-func placed(err error, in Instruction) error {
-	number, _ := api.Tell(err)
-	return &api.At{Err: number, Place: in.Place()}
-}
-
-func (m *making) do(s *steps.State, in Instruction) error {
-	t, err := m.task(s, in)
-	if err != nil {
-		return err
-	}
-	if err := in.rule.do(s, t); err != nil {
-		return err
-	}
-	return s.CheckBound()
-}
-
-// task tells what an instruction asks for in a stage that has come so far.
-func (m *making) task(s *steps.State, in Instruction) (steps.Task, error) {
-	t := steps.Task{Source: m.context}
+// turn tells what an instruction asks for in a stage that has come so far.
+func (m *making) turn(s *steps.State, in Instruction) Turn {
+	t := steps.Task{Source: m.source(in)}
 	if in.Stage != none {
 		t.Stage = m.states[in.Stage]
-		t.Source = t.Stage.Tree()
 	}
 	for _, w := range in.operands() {
-		value := w.Filled(s.Value)
-		if len(value) > api.MaxValue {
-			return steps.Task{}, api.ErrBound
-		}
-		t.Words = append(t.Words, value)
+		t.Words = append(t.Words, w.Filled(s.Value))
 	}
-	return t, nil
+	return Turn{State: s, Task: t, in: in}
+}
+
+// source tells the tree that an instruction takes things from; nil, if it takes none.
+func (m *making) source(in Instruction) *trees.Node {
+	switch {
+	case !in.is(copyWord) && !in.is(addWord):
+		return nil
+	case in.Stage != none:
+		return m.states[in.Stage].Tree()
+	}
+	return m.context
 }
 
 // operands tells the words behind the first, but for the one by which a COPY names a stage.
@@ -67,4 +56,10 @@ func (in Instruction) operands() []words.Word {
 		return in.Words[2:]
 	}
 	return in.Words[1:]
+}
+
+// placed tells an error with the place of the instruction that can't be done, whatever place it had.
+func placed(err error, in Instruction) error {
+	number, _ := api.Tell(err)
+	return &api.At{Err: number, Place: in.Place()}
 }

@@ -2,9 +2,14 @@
 package layers
 
 import (
+	"slices"
+
 	"layers/api"
 	"layers/archive"
+	"layers/buildfile"
+	"layers/builds"
 	"layers/changes"
+	"layers/images"
 	"layers/paths"
 	"layers/store"
 	"layers/trees"
@@ -55,7 +60,7 @@ func Unpack(s string) ([]api.Change, error) { return archive.Unpack(s) }
 
 // Parse tells a build file's one form (P10).
 func Parse(text string) (string, error) {
-	f, err := read(text)
+	f, err := read(text, buildfile.Read)
 	if err != nil {
 		return "", err
 	}
@@ -64,7 +69,7 @@ func Parse(text string) (string, error) {
 
 // Plan tells the stages that are needed (P11).
 func Plan(text string) ([]int, error) {
-	f, err := read(text)
+	f, err := read(text, buildfile.Read)
 	if err != nil {
 		return nil, err
 	}
@@ -73,19 +78,28 @@ func Plan(text string) ([]int, error) {
 
 // Make tells what a build file means (P12).
 func Make(text string, context []api.Entry) (api.Image, error) {
-	f, err := read(text)
+	f, root, err := readBuild(text, context)
 	if err != nil {
 		return api.Image{}, err
 	}
-	root, err := trees.Of(context)
-	if err != nil {
-		return api.Image{}, err
-	}
-	last, err := f.Make(root)
+	last, err := f.Make(root, buildfile.Turn.Do)
 	if err != nil {
 		return api.Image{}, err
 	}
 	return last.Image(), nil
+}
+
+// readBuild tells what a build file says, and the root of a context.
+func readBuild(text string, context []api.Entry) (*buildfile.File, *trees.Node, error) {
+	f, err := read(text, buildfile.Read)
+	if err != nil {
+		return nil, nil, err
+	}
+	root, err := trees.Of(context)
+	if err != nil {
+		return nil, nil, err
+	}
+	return f, root, nil
 }
 
 // Store is files of blobs and of a cache.
@@ -119,8 +133,40 @@ func (s *Store) Drop(name string) error { return s.files.Drop(name) }
 
 // Build builds a build file (P16, P17).
 func (s *Store) Build(text string, context []api.Entry) (api.Built, error) {
-	return api.Built{}, nil
+	f, root, err := readBuild(text, context)
+	if err != nil {
+		return api.Built{}, err
+	}
+	return builds.Build(s.files, f, root)
 }
 
 // Load tells the image of a manifest (P18).
-func (s *Store) Load(digest string) (api.Image, error) { return api.Image{}, nil }
+func (s *Store) Load(digest string) (api.Image, error) {
+	m, err := readBlob(s.files, digest, images.ReadManifest)
+	if err != nil {
+		return api.Image{}, err
+	}
+	c, err := readBlob(s.files, m.Config, images.ReadConfig)
+	if err != nil {
+		return api.Image{}, err
+	}
+	if !slices.Equal(c.Layers, m.Layers) {
+		return api.Image{}, api.ErrImage
+	}
+	root := trees.New()
+	for _, layer := range m.Layers {
+		if err := builds.Lay(s.files, root, layer); err != nil {
+			return api.Image{}, err
+		}
+	}
+	return api.Image{Env: c.Env, Work: c.Work, Tree: root.List()}, nil
+}
+
+// readBlob tells what a blob says.
+func readBlob[T any](files *store.Store, sum string, by func(text string) T) (said T, err error) {
+	text, err := files.Get(sum)
+	if err != nil {
+		return said, err
+	}
+	return read(text, by)
+}

@@ -26,12 +26,14 @@ func someContext(t *testing.T) []api.Entry {
 	}
 }
 
+// checkImage: what a text means, and is built as.
 func checkImage(t *testing.T, text string, context []api.Entry, env, work string, want ...api.Entry) {
 	t.Helper()
 	got, err := layers.Make(text, context)
 	if err != nil || strings.Join(got.Env, ",") != env || got.Work != work || !slices.Equal(got.Tree, want) {
 		t.Errorf("P12: Make(%q): %v, %v; want %s, %s, %v", text, got, err, env, work, want)
 	}
+	checkBuilt(t, text, context, got)
 }
 
 // checkMade: behind a FROM, these lines make this tree, and nothing else.
@@ -49,11 +51,13 @@ func checkCant(t *testing.T, number api.Errno, lines ...string) {
 	}
 }
 
+// checkNoMake: the error of Make, which Build tells, too; and nothing beside it.
 func checkNoMake(t *testing.T, text string, context []api.Entry, number api.Errno, place int) {
 	t.Helper()
 	if got, err := layers.Make(text, context); !isNoImage(got) || !isAt(err, number, place) {
 		t.Errorf("P12: Make(%q): %v, %v; want error %d at %d", text, got, err, number, place)
 	}
+	checkNoBuild(t, opened(t, api.MaxQuota), text, context, number, place)
 }
 
 // made: a directory as it is made.

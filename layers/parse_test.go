@@ -53,7 +53,7 @@ func checkWrong(t *testing.T, marked string, number api.Errno) {
 	checkNoParse(t, text, number, place)
 }
 
-// checkNoParse: the error of Parse, which Plan and Make tell, too, whatever the context is; and nothing beside it.
+// checkNoParse: the error of Parse, which Plan, Make and Build tell, too, whatever the context is; and nothing beside it.
 func checkNoParse(t *testing.T, text string, number api.Errno, place int) {
 	t.Helper()
 	if got, err := layers.Parse(text); got != "" || !isAt(err, number, place) {
@@ -66,6 +66,7 @@ func checkNoParse(t *testing.T, text string, number api.Errno, place int) {
 	if !isNoImage(got) || !isAt(err, number, place) {
 		t.Errorf("P12: Make(%q): %v, %v; want error %d at %d", text, got, err, number, place)
 	}
+	checkNoBuild(t, opened(t, 0), text, []api.Entry{{}}, number, place)
 }
 
 func isNoImage(i api.Image) bool {

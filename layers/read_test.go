@@ -5,6 +5,8 @@ import (
 	"testing"
 
 	"layers/api"
+	"layers/buildfile"
+	"layers/images"
 	"layers/words"
 )
 
@@ -12,6 +14,26 @@ func TestWrongOf(t *testing.T) {
 	err := wrongOf(&words.Wrong{Err: api.ErrVar, Place: 7})
 	if a, ok := err.(*api.At); !ok || *a != (api.At{Err: api.ErrVar, Place: 7}) {
 		t.Errorf("%v", err)
+	}
+	if err := wrongOf(&images.Wrong{Place: 7}); err != api.ErrImage {
+		t.Errorf("%v", err)
+	}
+}
+
+// What is read is told, of whatever kind it is; beside an error there is nothing.
+func TestRead(t *testing.T) {
+	if n, err := read("abc", func(s string) int { return len(s) }); n != 3 || err != nil {
+		t.Errorf("%d, %v", n, err)
+	}
+	f, err := read("FROM scratch", buildfile.Read)
+	if f == nil || err != nil {
+		t.Errorf("%v, %v", f, err)
+	}
+	if f, err = read("FROM", buildfile.Read); f != nil || err == nil {
+		t.Errorf("%v, %v", f, err)
+	}
+	if c, err := read(`{"env":["A=x"],"layers":[],"work":"/"`, images.ReadConfig); c.Env != nil || c.Work != "" || err != api.ErrImage {
+		t.Errorf("%v, %v", c, err)
 	}
 }
 

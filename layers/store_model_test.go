@@ -33,19 +33,25 @@ func (m *modelStore) drop(name string) string {
 	return told("", nil)
 }
 
+// blob: the bytes that have a digest.
+func (m *modelStore) blob(sum string) (string, bool) {
+	i := m.find("b/" + sum)
+	if i < 0 || digest(m.files[i].Data) != sum {
+		return "", false
+	}
+	return m.files[i].Data, true
+}
+
 func (m *modelStore) get(sum string) string {
-	if i := m.find("b/" + sum); i >= 0 && digest(m.files[i].Data) == sum {
-		return told(m.files[i].Data, nil)
+	if data, ok := m.blob(sum); ok {
+		return told(data, nil)
 	}
 	return told("", api.ErrNone)
 }
 
-func (m *modelStore) put(data string) string {
-	f := blob(data)
-	if m.get(digest(data)) != told("", api.ErrNone) {
-		return told(digest(data), nil)
-	}
-	size := len(data)
+// keep: whether there is room for a file, which is there then.
+func (m *modelStore) keep(f api.Blob) bool {
+	size := len(f.Data)
 	var others []api.Blob
 	for _, g := range m.files {
 		if g.Name != f.Name {
@@ -54,10 +60,23 @@ func (m *modelStore) put(data string) string {
 		}
 	}
 	if size > m.quota {
-		return told("", api.ErrFull)
+		return false
 	}
 	m.files = rising(append(others, f)...)
 	m.acts = append(m.acts, kept(f)...)
+	return true
+}
+
+// has: whether a blob is there, or there is room for it.
+func (m *modelStore) has(data string) bool {
+	_, ok := m.blob(digest(data))
+	return ok || m.keep(blob(data))
+}
+
+func (m *modelStore) put(data string) string {
+	if !m.has(data) {
+		return told("", api.ErrFull)
+	}
 	return told(digest(data), nil)
 }
 

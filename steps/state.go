@@ -12,9 +12,10 @@ import (
 
 // State is what the instructions of a stage have come to.
 type State struct {
-	root *trees.Node
-	work string
-	env  []variable // by rising names, each once
+	root   *trees.Node
+	work   string
+	env    []variable // by rising names, each once
+	layers []string   // by their digests, the first first
 }
 
 type variable struct {
@@ -29,6 +30,22 @@ func New() *State {
 // Tree tells the root of the tree.
 func (s *State) Tree() *trees.Node {
 	return s.root
+}
+
+// Layers tells the digests of the layers that were added, the first first: of a stage that is made without a store there are none.
+func (s *State) Layers() []string {
+	return s.layers
+}
+
+// AddLayer adds a layer, by its digest.
+func (s *State) AddLayer(sum string) {
+	s.layers = append(s.layers, sum)
+}
+
+// Jump has the tree and the directory, by its path, to which a step leads that need not be done.
+func (s *State) Jump(root *trees.Node, path string) {
+	s.root = root
+	s.work = path
 }
 
 // Value tells a variable's value; an empty one, if it is not set.
@@ -47,13 +64,23 @@ func (s *State) findVariable(name string) (int, bool) {
 	})
 }
 
+// Env tells the variables as NAME=value, by rising names.
+func (s *State) Env() []string {
+	var l []string
+	for _, v := range s.env {
+		l = append(l, v.name+"="+v.value)
+	}
+	return l
+}
+
+// Work tells the directory as images do, with a slash ahead of its path.
+func (s *State) Work() string {
+	return paths.Slash + s.work
+}
+
 // Image tells the variables, the directory and the tree, in memory of their own.
 func (s *State) Image() api.Image {
-	var env []string
-	for _, v := range s.env {
-		env = append(env, v.name+"="+v.value)
-	}
-	return api.Image{Env: env, Work: paths.Slash + s.work, Tree: s.root.List()}
+	return api.Image{Env: s.Env(), Work: s.Work(), Tree: s.root.List()}
 }
 
 // CheckBound tells ErrBound, if the tree has too many entries.
@@ -64,7 +91,7 @@ func (s *State) CheckBound() error {
 	return nil
 }
 
-// resolve tells the path that a word names in the directory.
-func (s *State) resolve(word string) (string, error) {
+// Resolve tells the path that a word names in the directory.
+func (s *State) Resolve(word string) (string, error) {
 	return paths.Resolve(s.work, word)
 }

@@ -12,7 +12,7 @@ import (
 	"layers/trees"
 )
 
-// Task is what an instruction asks for: its words, without its own and the stage that is named, with the values of variables set in; that stage, if there is one; and the tree that things are taken from.
+// Task is what an instruction asks for: its words, without its own and the stage that is named, with the values of variables set in; that stage, if there is one; and the tree that things are taken from, if they are.
 type Task struct {
 	Words  []string
 	Stage  *State
@@ -28,6 +28,7 @@ func (s *State) Begin(t Task) error {
 	s.root = t.Stage.root.Clone()
 	s.work = t.Stage.work
 	s.env = slices.Clone(t.Stage.env)
+	s.layers = slices.Clone(t.Stage.layers)
 	return nil
 }
 
@@ -53,7 +54,7 @@ func (s *State) ends(t Task) (*trees.Node, string, error) {
 	if err != nil {
 		return nil, "", err
 	}
-	dst, err := s.resolve(t.Words[1])
+	dst, err := s.Resolve(t.Words[1])
 	if err != nil {
 		return nil, "", err
 	}
@@ -113,7 +114,7 @@ func (s *State) Add(t Task) error {
 
 // Remove takes away what is at a path, and all below it.
 func (s *State) Remove(t Task) error {
-	path, err := s.resolve(t.Words[0])
+	path, err := s.Resolve(t.Words[0])
 	switch {
 	case err != nil:
 		return err
@@ -128,7 +129,7 @@ func (s *State) Remove(t Task) error {
 
 // Mkdir makes a directory, which has the mode that is told, if there is one.
 func (s *State) Mkdir(t Task) error {
-	path, err := s.resolve(t.Words[0])
+	path, err := s.Resolve(t.Words[0])
 	if err != nil {
 		return err
 	}
@@ -152,7 +153,7 @@ func (s *State) Link(t Task) error {
 	if !trees.IsTarget(t.Words[0]) {
 		return api.ErrPath
 	}
-	path, err := s.resolve(t.Words[1])
+	path, err := s.Resolve(t.Words[1])
 	if err != nil {
 		return err
 	}
@@ -175,7 +176,7 @@ func (s *State) SetVariable(t Task) error {
 
 // Enter makes a directory, and goes there.
 func (s *State) Enter(t Task) error {
-	path, err := s.resolve(t.Words[0])
+	path, err := s.Resolve(t.Words[0])
 	if err != nil {
 		return err
 	}

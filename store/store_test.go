@@ -57,7 +57,15 @@ func TestTextsAreItsOwn(t *testing.T) {
 	if err != nil {
 		t.Fatal(err)
 	}
-	outside = append(outside, sum, got)
+	key, entry := digest.Of("key"), strings.Repeat("entry", 2)
+	if err := s.KeepCached(key, entry); err != nil {
+		t.Fatal(err)
+	}
+	cached, ok := s.Cached(key)
+	if !ok || cached != entry {
+		t.Fatal(cached, ok)
+	}
+	outside = append(outside, sum, got, key, entry, cached)
 	if err := s.Drop(name); err != nil {
 		t.Fatal(err)
 	}
@@ -80,5 +88,38 @@ func TestActsAreForgotten(t *testing.T) {
 	s.Put("a")
 	if len(s.Acts()) != 4 || s.acts != nil {
 		t.Errorf("%d acts are kept", len(s.acts))
+	}
+}
+
+// The cache has files of its own, beside the blobs, and takes of the same room.
+func TestCache(t *testing.T) {
+	s, err := New(nil, 10)
+	if err != nil {
+		t.Fatal(err)
+	}
+	key, err := s.Put("blob")
+	if err != nil {
+		t.Fatal(err)
+	}
+	if data, ok := s.Cached(key); ok || data != "" {
+		t.Errorf("%q, %v: in the cache without being kept", data, ok)
+	}
+	s.Acts()
+	for _, data := range []string{"", "123456", "other"} {
+		if err := s.KeepCached(key, data); err != nil {
+			t.Errorf("%q is not kept: %v", data, err)
+		}
+		if got, ok := s.Cached(key); !ok || got != data {
+			t.Errorf("%q, %v; want %q", got, ok, data)
+		}
+		if l := s.Acts(); len(l) != 4 || l[0].Name != passing+key || l[2].To != cache+key {
+			t.Errorf("%v", l)
+		}
+	}
+	if err := s.KeepCached(key, "1234567"); err != api.ErrFull {
+		t.Errorf("%v; want ErrFull", err)
+	}
+	if got, _ := s.Cached(key); got != "other" {
+		t.Errorf("%q is there; want what was there", got)
 	}
 }

@@ -68,21 +68,24 @@ func (w Word) Filled(value func(name string) string) string {
 // Form tells a word in its one form.
 func (w Word) Form() string {
 	if len(w.Parts) == 0 {
-		return `""`
+		return TextForm("")
 	}
 	var b strings.Builder
 	for _, p := range w.Parts {
 		if p.IsVariable {
 			b.WriteString("${" + p.Text + "}")
 		} else {
-			b.WriteString(escaped(p.Text))
+			b.WriteString(TextForm(p.Text))
 		}
 	}
 	return b.String()
 }
 
-// escaped tells a text with a backslash ahead of all that may mean something else.
-func escaped(s string) string {
+// TextForm tells the one form of a word that stands for this text: it has a backslash ahead of all that may mean something else.
+func TextForm(s string) string {
+	if s == "" {
+		return quote + quote
+	}
 	var b strings.Builder
 	for i := range len(s) {
 		if !isUnchanged(s[i]) {

@@ -81,3 +81,21 @@ func TestIsVariable(t *testing.T) {
 		}
 	}
 }
+
+// The one form of a text is a plain word that stands for it, and is its own form.
+func TestTextForm(t *testing.T) {
+	all := ""
+	for c := byte(32); c <= 126; c++ {
+		all += string(c)
+	}
+	for text, want := range map[string]string{"": `""`, "a": "a", "./_=:-": "./_=:-", `$A "b" \`: `\$A\ \"b\"\ \\`, "#~+": `\#\~\+`, all: ""} {
+		form := TextForm(text)
+		if form != want && want != "" {
+			t.Errorf("of %q: %s; want %s", text, form, want)
+		}
+		l := NewReader(form).Line()
+		if len(l) != 1 || !l[0].Is(text) || l[0].Form() != form {
+			t.Errorf("of %q: %s is %v", text, form, l)
+		}
+	}
+}
