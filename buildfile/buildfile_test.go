@@ -8,29 +8,40 @@ import (
 	"strings"
 	"testing"
 
+	"layers/steps"
 	"layers/trees"
 	"layers/words"
 )
 
-// Every instruction of the table can be read and done.
 func TestRules(t *testing.T) {
-	rules := newRules()
 	want := []string{"ADD", "COPY", "ENV", "FROM", "LINK", "MKDIR", "RM", "WORKDIR"}
-	if got := slices.Sorted(maps.Keys(rules)); !slices.Equal(got, want) {
+	if got := slices.Sorted(maps.Keys(newRules())); !slices.Equal(got, want) {
 		t.Errorf("instructions: %q; want %q", got, want)
 	}
-	for word, r := range rules {
-		if r.read == nil || r.do == nil || r.least < 1 || r.most < r.least {
-			t.Errorf("%s: %v", word, r)
+	for word, r := range newRules() {
+		if !r.isWhole() {
+			t.Errorf("%s: %v is not whole", word, r)
 		}
 	}
 }
 
-// init has found the longest word: that one is looked for, and one byte more is not.
-func TestLongest(t *testing.T) {
-	if longest != len(workdirWord) {
-		t.Errorf("the longest word has %d bytes; want %d", longest, len(workdirWord))
+// What init looks for: a rule that lacks one thing is not whole.
+func TestIsWhole(t *testing.T) {
+	read, do := (*File).readAny, (*steps.State).Remove
+	for _, r := range []rule{{1, 1, read, do}, {1, 2, read, do}, {2, 2, read, do}} {
+		if !r.isWhole() {
+			t.Errorf("%v is not whole", r)
+		}
 	}
+	for _, r := range []rule{{}, {0, 1, read, do}, {-1, 1, read, do}, {2, 1, read, do}, {1, 1, nil, do}, {1, 1, read, nil}} {
+		if r.isWhole() {
+			t.Errorf("%v is whole", r)
+		}
+	}
+}
+
+// The words of the table have rules, and those that are nearly these have none.
+func TestRuleOf(t *testing.T) {
 	for word := range newRules() {
 		if _, ok := ruleOf(wordOf(word)); !ok {
 			t.Errorf("%s: no rule", word)

@@ -24,12 +24,17 @@ type rule struct {
 	do          func(*steps.State, steps.Task) error
 }
 
-// longest is how many bytes the longest word of an instruction has. Only init writes here.
-var longest = 0
+// isWhole tells whether an instruction can be read and done by its rule: reading asks for the first word behind its own without looking whether there is one.
+func (r rule) isWhole() bool {
+	return 1 <= r.least && r.least <= r.most && r.read != nil && r.do != nil
+}
 
+// A wrong row of the table is told when the program starts, not by the first file that has its word: no call may panic.
 func init() {
-	for word := range newRules() {
-		longest = max(longest, len(word))
+	for _, r := range newRules() {
+		if !r.isWhole() {
+			panic("an instruction has no whole rule")
+		}
 	}
 }
 
@@ -47,10 +52,10 @@ func newRules() map[string]rule {
 	}
 }
 
-// ruleOf tells the rule of the instruction that begins with this word; false, if there is none. The table is made at each look, so a word that is longer than all of its words is not looked for.
+// ruleOf tells the rule of the instruction that begins with this word; false, if there is none.
 func ruleOf(w words.Word) (rule, bool) {
 	word, ok := w.Plain()
-	if !ok || len(word) > longest {
+	if !ok {
 		return rule{}, false
 	}
 	r, ok := newRules()[word]
